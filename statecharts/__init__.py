@@ -1,0 +1,1 @@
+"""Charts of states within states."""
