@@ -36,13 +36,25 @@ def is_act(kind, which):
     return SET <= kind <= ADDED and is_number(which)
 
 
+def add_act(acts, kind, which, much):
+    """An act more behind those that there are; what telling it answers."""
+    if not is_act(kind, which):
+        return WRONG
+    if len(acts) == MOST_ACTS:
+        return FULL
+    acts.append((kind, which, much))
+    return 0
+
+
 class State:
-    """A state: what it is within, its kind, and the part told as its beginning."""
+    """A state: what it is within, its kind, the part told as its beginning, and its acts."""
 
     def __init__(self, parent, kind):
         self.parent = parent
         self.kind = kind
         self.told_part = NONE
+        self.coming_acts = []
+        self.leaving_acts = []
 
     def is_history(self):
         return self.kind == SHALLOW or self.kind == DEEP
@@ -71,7 +83,8 @@ class Chart:
         # 0 has no parent, so that it is a part of nothing, not of itself either.
         self.states = [State(NONE, ORDINARY)]
         self.ways = []
-        self.runs = False
+        # The desk puts a run here as it starts one, so that a chart knows nothing of runs.
+        self.run = None
         return 0
 
     def state(self, parent, kind):
@@ -108,13 +121,16 @@ class Chart:
         return 0
 
     def act(self, way, kind, which, much):
-        if not self.has_way(way) or not is_act(kind, which):
+        if not self.has_way(way):
             return WRONG
-        acts = self.ways[way].acts
-        if len(acts) == MOST_ACTS:
-            return FULL
-        acts.append((kind, which, much))
-        return 0
+        return add_act(self.ways[way].acts, kind, which, much)
+
+    def on(self, state, leaving, kind, which, much):
+        if state == 0 or not self.has_state(state) or self.states[state].is_history():
+            return WRONG
+        one = self.states[state]
+        acts = one.coming_acts if leaving == 0 else one.leaving_acts
+        return add_act(acts, kind, which, much)
 
     def has_state(self, state):
         return 0 <= state < len(self.states)
@@ -142,6 +158,15 @@ class Chart:
         while around != NONE and around != outer:
             around = self.states[around].parent
         return around == outer
+
+    def may_start(self):
+        """Whether 0 has parts, and the parent of each history has, too."""
+        if not self.parts(0):
+            return False
+        for one in self.states:
+            if one.is_history() and not self.parts(one.parent):
+                return False
+        return True
 
     def may_hold(self, parent, kind):
         """Whether a state of that kind may be told in that parent."""

@@ -2,15 +2,47 @@
 
 import unittest
 
-from lines import BEGIN, GREATEST, LEAST, act, begins, flat, guard, picture, state, way
+from lines import (
+    BEGIN, GREATEST, LEAST, START, act, begins, flat, guard, is_in, number, on, picture, send, state, take, way,
+)
 from statecharts import desk
 from statecharts.chart import Chart
 
-LINE = flat((
-    BEGIN, state(0, 0), state(1, 0), state(1, 3), begins(0, 1), way(1, 1, 2),
-    guard(0, 1, 15, LEAST), act(0, 2, 15, GREATEST), state(9, 0), BEGIN, state(0, 1),
-))
-TOLD = [1, 0, 1, 1, 1, 2, 1, 3, 1, 0, 1, 0, 1, 0, 1, 0, 1, -1, 1, 0, 1, 1]
+# Each call once at least, each kind of answer, and a refusal of each number.
+CALLS_AND_ANSWERS = (
+    (BEGIN, [0]),
+    (send(1), [-4]),
+    (state(0, 0), [1]),
+    (state(1, 0), [2]),
+    (state(1, 3), [3]),
+    (begins(0, 1), [0]),
+    (way(1, 1, 2), [0]),
+    (guard(0, 1, 15, 0), [0]),
+    (act(0, 2, 15, GREATEST), [0]),
+    (on(2, 0, 2, 14, -5), [0]),
+    (state(9, 0), [-1]),
+    (START, [0]),
+    (START, [-3]),
+    (take(1), [1, 1]),
+    (number(14), [0, -5]),
+    (send(1), [0]),
+    (number(15), [0, GREATEST]),
+    (number(14), [0, -10]),
+    (number(16), [-1]),
+    (is_in(2), [1]),
+    (is_in(3), [0]),
+    (take(2), [2, 2, 258]),
+    (take(0), [0]),
+    (take(9), [3, 257, 1, 2]),
+    (take(9), [0]),
+    (BEGIN, [0]),
+    (state(0, 2), [1]),
+    (START, [0]),
+    (send(1), [-5]),
+    (take(65536), [1, 1]),
+)
+LINE = flat([call for call, told in CALLS_AND_ANSWERS])
+TOLD = flat([[len(told)] + told for call, told in CALLS_AND_ANSWERS])
 
 
 class Answers(unittest.TestCase):
@@ -49,6 +81,17 @@ class Answers(unittest.TestCase):
     def test_400_calls(self):
         self.assertEqual(desk.answers([0] * 400), [1, 0] * 400)
 
+    def test_400_calls_10_of_them_take(self):
+        # 63 states within one another, each left and come to once a step.
+        chart = [BEGIN] + [state(one, 0) for one in range(63)] + [way(1, 1, 1), START]
+        calls = chart + [send(1)] * (400 - len(chart) - 10) + [take(65536)] * 10
+        self.assertEqual(len(calls), 400)
+        there = list(range(1, 64))
+        back = [256 + one for one in reversed(there)]
+        trail = there + (back + there) * (len(calls) - len(chart) - 10)
+        told = desk.answers(flat(calls))
+        self.assertEqual(told[-len(trail) - 20:], [len(trail) + 1, len(trail)] + trail + [1, 0] * 9)
+
 
 class Handed(unittest.TestCase):
     def test_each_number_goes_where_it_is_told(self):
@@ -56,11 +99,13 @@ class Handed(unittest.TestCase):
         for call, given, told in (
             (1, [0, 1], 1), (1, [1, 0], 2), (1, [0, 0], 3), (2, [0, 3], 0), (3, [2, 7, 1], 0),
             (4, [0, 3, 5, LEAST], 0), (5, [0, 2, 6, GREATEST], 0), (5, [0, 1, 4, LEAST], 0),
+            (6, [2, 0, 1, 7, LEAST], 0), (6, [2, 1, 0, 8, GREATEST], 0), (6, [3, 0, 2, 9, 1], 0),
         ):
             self.assertEqual(desk.answer(chart, call, given), [told])
         self.assertEqual(picture(chart), (
             [(-1, 0, 3), (0, 1, -1), (1, 0, -1), (0, 0, -1)],
             [(2, 7, 1, 3, 5, LEAST, [(2, 6, GREATEST), (1, 4, LEAST)])],
+            [([], []), ([], []), ([(1, 7, LEAST)], [(0, 8, GREATEST)]), ([(2, 9, 1)], [])],
             False,
         ))
 
@@ -86,58 +131,7 @@ class Begin(unittest.TestCase):
 
     def test_a_chart_of_0_alone_of_which_nothing_runs(self):
         chart = Chart()
-        self.assertEqual(picture(chart), ([(-1, 0, -1)], [], False))
-
-    def test_where_something_runs(self):
-        chart = Chart()
-        new = picture(chart)
-        chart.state(0, 0)
-        chart.way(1, 1, -1)
-        chart.runs = True
-        self.assertEqual(desk.answer(chart, 0, []), [0])
-        self.assertEqual(picture(chart), new)
-        self.assertEqual(desk.answer(chart, 1, [0, 0]), [1])
-
-
-class Running(unittest.TestCase):
-    """No call of a line makes a chart run as yet, so it is made to run by hand."""
-
-    def setUp(self):
-        self.chart = Chart()
-        self.chart.state(0, 0)
-        self.chart.state(1, 0)
-        self.chart.way(1, 1, 2)
-
-    def assert_refused(self, call, given):
-        self.chart.runs = True
-        before = picture(self.chart)
-        self.assertEqual(desk.answer(self.chart, call, given), [-3])
-        self.assertEqual(picture(self.chart), before)
-
-    def test_what_else_would_be_done(self):
-        for call, given in (
-            (1, [0, 0]), (2, [0, 1]), (3, [1, 1, 2]), (4, [0, 1, 1, 1]), (5, [0, 1, 1, 1]),
-        ):
-            with self.subTest(call=call):
-                self.assert_refused(call, given)
-
-    def test_ahead_of_what_else_would_be_wrong(self):
-        for call, given in (
-            (1, [9, 9]), (2, [9, 9]), (3, [9, 9, 9]), (4, [9, 9, 9, 9]), (5, [9, 9, 9, 9]),
-        ):
-            with self.subTest(call=call):
-                self.assert_refused(call, given)
-
-    def test_ahead_of_what_else_would_be_full(self):
-        while self.chart.state(0, 0) > 0:
-            pass
-        while self.chart.way(1, 1, 2) > 0:
-            pass
-        while self.chart.act(0, 1, 1, 1) == 0:
-            pass
-        for call, given in ((1, [0, 0]), (3, [1, 1, 2]), (5, [0, 1, 1, 1])):
-            with self.subTest(call=call):
-                self.assert_refused(call, given)
+        self.assertEqual(picture(chart), ([(-1, 0, -1)], [], [([], [])], False))
 
 
 if __name__ == "__main__":
